@@ -1,0 +1,1 @@
+"""Websplit: one web over houses, for askers who may see parts of it."""
