@@ -50,3 +50,22 @@ def changed_once(text, chance, signs):
     if deed == 3:
         return text[:at] + text[at + 1:at + 2] + text[at:at + 1] + text[at + 2:]
     return text[:at] + text[at:at + 1] + text[at:]
+
+
+def some_worth(chance):
+    return chance.choice((0, 9, 10, -1, 999999999, -999999999, "a", "rome", "abcdefghijkl", chance.randint(-99, 99)))
+
+
+def some_rows(chance, knots, ties):
+    """Rows of a web with so many knots and ties, in any order."""
+    names = ["a", "age", "b", "town", "x", "y", "z", "abcdefgh"]
+    numbers = chance.sample((0, 9, 10, 99, 100, 999) + tuple(range(200, 260)), knots)
+    knot_rows = []
+    for number in numbers:
+        held = chance.sample(names, chance.choice((0, 1, 2, 6)))
+        knot_rows.append((number, chance.choice(("person", "town")), {name: some_worth(chance) for name in held}))
+    tie_rows = []
+    for number in chance.sample((0, 9, 10, 99, 100, 999) + tuple(range(300, 420)), ties):
+        kind = chance.choice(("knows", "lives"))
+        tie_rows.append((number, kind, chance.choice(numbers), chance.choice(numbers), chance.choice((1, 9, 10, 1000))))
+    return knot_rows, tie_rows

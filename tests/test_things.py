@@ -108,6 +108,15 @@ class Texts(unittest.TestCase):
         self.assertEqual(written(thing=(1,)), "[1]")
         self.assertEqual(read_thing(text="[1]"), (1,))
 
+    def test_of_each_letter_and_figure(self):
+        for letter in "abcdefghijklmnopqrstuvwxyz":
+            self.assertEqual((is_name(letter), is_worth(letter), is_thing(letter)), (True, True, True))
+            for thing in (letter, letter * 12, (letter, "a" + letter, letter + "z"), ((letter,),)):
+                self.assertEqual(read_thing(written(thing)), thing)
+        for number in range(-120, 121):
+            self.assertEqual(read_thing(f"[{number}]"), (number,))
+            self.assertEqual(written((number, None)), f"[{number} .]")
+
     def test_of_any_thing_are_read_as_the_same_thing(self):
         chance = random.Random(10)
         texts = {}
@@ -132,7 +141,7 @@ class Texts(unittest.TestCase):
         self.assertGreater(refused, 5000)
 
     def test_that_write_nothing_are_refused(self):
-        wrong = """00 01 007 -0 -00 -01 - -- --1 +1 1- 1-1 1. 1.0 .. .a a. a1 1a A aB a_b ' " 1_0 0x1 1e3 ~ %"""
+        wrong = """00 01 007 -0 -00 -01 - -- --1 +1 1- 1-1 / : 1/ :1 ` { 1. 1.0 .. .a a. a1 1a A aB a_b ' " 1_0 0x1 1e3 ~ %"""
         for word in wrong.split(" "):
             self.assert_refused(word)
             self.assert_refused(f"[{word}]")

@@ -1,7 +1,7 @@
 """Things, names and worths: what they are, how they are written and read."""
 
-from websplit.bounds import MOST_FIGURES, MOST_NAME_LETTERS, MOST_TEXT_LETTERS, MOST_THING
-from websplit.bounds import MOST_WITHIN, MOST_WORTH
+from websplit.bounds import MOST_FIGURES, MOST_NAME_LETTERS, MOST_NUMBER, MOST_TEXT_LETTERS
+from websplit.bounds import MOST_THING, MOST_WITHIN, MOST_WORTH
 from websplit.errors import NoText
 
 
@@ -14,6 +14,11 @@ def is_whole(thing):
 def is_between(thing, low, high):
     """Whether it is a whole number from low to high, of anything."""
     return is_whole(thing) and low <= thing <= high
+
+
+def is_number(thing):
+    """Whether a knot or a tie may have this number, of anything."""
+    return is_between(thing, 0, MOST_NUMBER)
 
 
 def is_letters(thing, most):
