@@ -31,6 +31,7 @@ STATEMENTS = (
     ast.Raise, ast.Assert, ast.Delete, ast.Nonlocal, ast.Match, ast.With, ast.Try, ast.Expr, ast.FunctionDef,
     ast.ClassDef, ast.ImportFrom)
 EAGER = ("any", "all", "min", "max", "sum", "sorted")
+TAKES = ("list", "tuple", "dict", "sorted", "sum", "any", "all", "enumerate", "zip", "bytes", "min", "max")
 
 
 def trees():
@@ -69,6 +70,16 @@ def locals_of(tree):
         found |= {node.name for node in kinds(scope, ast.FunctionDef) if node is not scope}
         found |= {node.name for node in kinds(scope, ast.ExceptHandler) if node.name}
     return found
+
+
+def homes(tree):
+    """What each node stands in."""
+    return {child: node for node in ast.walk(tree) for child in ast.iter_child_nodes(node)}
+
+
+def calls(node, *names):
+    """Whether it is a call of a builtin of one of these names."""
+    return isinstance(node, ast.Call) and isinstance(node.func, ast.Name) and node.func.id in names
 
 
 class Files(unittest.TestCase):
@@ -164,6 +175,79 @@ class Rows(unittest.TestCase):
                 self.assertFalse(word.startswith("_"), word)
             free = {node.id for node in kinds(tree, ast.Name)} - inner - set(bound(tree))
             self.assertEqual(free - BUILTINS, set(), name)
+
+
+class Places(unittest.TestCase):
+    """Where sets, what is iterated at once, builtins and classes stand."""
+
+    def nodes(self, kind):
+        for name, tree in trees().items():
+            home = homes(tree)
+            for node in kinds(tree, kind):
+                yield node, home, f"{name} {getattr(node, 'lineno', '')}"
+
+    def is_set(self, node):
+        return isinstance(node, (ast.Set, ast.SetComp)) or calls(node, "set")
+
+    def test_sets(self):
+        """L24: beside `in` and `==`, alone in sorted and len, or in a variable of their own."""
+        for node, home, where in self.nodes(ast.expr):
+            if not self.is_set(node):
+                continue
+            while isinstance(home[node], ast.BinOp):
+                node = home[node]
+            place = home[node]
+            self.assertIsInstance(place, (ast.Compare, ast.Call, ast.Assign), where)
+            if isinstance(place, ast.Compare):
+                self.assertIsInstance(place.ops[0], (ast.In, ast.NotIn, ast.Eq, ast.NotEq), where)
+            elif isinstance(place, ast.Call):
+                self.assertTrue(calls(place, "sorted", "len") and not place.keywords, where)
+            self.assertFalse(calls(node, "frozenset"), where)
+
+    def test_iterated_at_once(self):
+        """L23."""
+        for node, home, where in self.nodes(ast.Call):
+            method = node.func.attr if isinstance(node.func, ast.Attribute) else ""
+            if calls(node, "zip", "enumerate", "reversed", "range") or method in ("items", "keys", "values"):
+                place = home[node]
+                if not isinstance(place, (ast.For, ast.comprehension)) or place.iter is not node:
+                    self.assertTrue(calls(place, *TAKES) and place.args[0] is node, where)
+
+    def test_generator_expressions(self):
+        """L7: they stand directly in a builtin, or in the join of a literal."""
+        for node, home, where in self.nodes(ast.GeneratorExp):
+            self.assertTrue(calls(home[node], "list", "tuple", "dict"), where)
+
+    def test_builtins_are_called(self):
+        """L22, L18: no builtin and no class is a value."""
+        classes = {node.name for tree in trees().values() for node in kinds(tree, ast.ClassDef)}
+        for node, home, where in self.nodes(ast.Name):
+            if isinstance(node.ctx, ast.Load) and node.id in classes | BUILTINS:
+                place = home[node]
+                while isinstance(place, ast.Tuple):
+                    place = home[place]
+                told = isinstance(place, (ast.ClassDef, ast.ExceptHandler, ast.Raise, ast.keyword))
+                self.assertTrue(told or isinstance(place, ast.Call) and place.func is node or calls(place, "isinstance"), where)
+
+    def test_keywords_of_builtins(self):
+        """L22."""
+        for node, _, where in self.nodes(ast.Call):
+            if isinstance(node.func, ast.Name) and node.func.id in BUILTINS:
+                told = {"sorted": {"key", "reverse"}, "min": {"key", "default"}, "max": {"key", "default"},
+                        "sum": {"start"}, "enumerate": {"start"}, "zip": {"strict"}}.get(node.func.id, set())
+                self.assertLessEqual({word.arg for word in node.keywords}, told, where)
+
+    def test_tables_are_only_read(self):
+        """L15: what a module has in lists and dicts is asked by an index or by `in`."""
+        for name, tree in trees().items():
+            home = homes(tree)
+            tables = {row.targets[0].id for row in tree.body if isinstance(row, ast.Assign)
+                      and isinstance(row.value, (ast.List, ast.Dict))}
+            for node in kinds(tree, ast.Name):
+                if node.id in tables and isinstance(node.ctx, ast.Load):
+                    place = home[node]
+                    self.assertIsInstance(place, (ast.Subscript, ast.Compare), f"{name} {node.lineno}")
+                    self.assertIsInstance(getattr(place, "ctx", ast.Load()), ast.Load, f"{name} {node.lineno}")
 
 
 class Classes(unittest.TestCase):

@@ -25,6 +25,12 @@ def seen(web, bars):
     return Web(knot_rows, [(tie,) + web.tie(tie) for tie in ties])
 
 
+def seen_by(whole, asker, moment):
+    """What an asker sees of the web of a whole as of a moment, of the last one where it is None."""
+    bars = whole.bars(asker, moment=moment) + whole.bars(asker)
+    return seen(whole.web(moment=moment), bars)
+
+
 def barred_by(bars, word):
     """What the bars of this sort name."""
     return [bar[1] for bar in bars if bar[0] == word]
