@@ -237,6 +237,48 @@ class Places(unittest.TestCase):
                         "sum": {"start"}, "enumerate": {"start"}, "zip": {"strict"}}.get(node.func.id, set())
                 self.assertLessEqual({word.arg for word in node.keywords}, told, where)
 
+    def test_stars(self):
+        """L7: behind a star in a call stands a name, or an attribute off one."""
+        for node, home, where in self.nodes(ast.Starred):
+            if isinstance(home[node], ast.Call):
+                self.assertIsInstance(node.value, (ast.Name, ast.Attribute), where)
+
+    def test_targets(self):
+        """L6: items are assigned and deleted off names and attributes, not off calls."""
+        for node, home, where in self.nodes(ast.Subscript):
+            if not isinstance(node.ctx, ast.Load):
+                self.assertIsInstance(node.value, (ast.Name, ast.Attribute), where)
+            if isinstance(node.ctx, ast.Del):
+                self.assertNotIsInstance(node.slice, (ast.Tuple, ast.List), where)
+        for node, home, where in self.nodes(ast.Attribute):
+            self.assertNotIsInstance(node.ctx, ast.Del, where)
+            if isinstance(node.ctx, ast.Store):
+                self.assertIsInstance(node.value, ast.Name, where)
+
+    def test_finally(self):
+        """L6: only an attribute or a name that is assigned a name, an attribute or a literal."""
+        for node, home, where in self.nodes(ast.Try):
+            for row in node.finalbody:
+                self.assertIsInstance(row, ast.Assign, where)
+                self.assertIsInstance(row.value, (ast.Name, ast.Attribute, ast.Constant), where)
+
+    def test_handlers(self):
+        """L19: only own errors are caught."""
+        own = {node.name for node in kinds(trees()["errors"], ast.ClassDef)}
+        for node, home, where in self.nodes(ast.ExceptHandler):
+            self.assertIsInstance(node.type, ast.Name, where)
+            self.assertIn(node.type.id, own, where)
+
+    def test_tables_have_own_functions(self):
+        """L3: plain values, and functions defined above in the same file."""
+        for name, tree in trees().items():
+            above = set()
+            for row in tree.body:
+                if isinstance(row, ast.FunctionDef):
+                    above.add(row.name)
+                elif isinstance(row, ast.Assign):
+                    self.assertLessEqual({node.id for node in kinds(row.value, ast.Name)}, above, name)
+
     def test_tables_are_only_read(self):
         """L15: what a module has in lists and dicts is asked by an index or by `in`."""
         for name, tree in trees().items():

@@ -19,7 +19,8 @@ def own_knots(web, slots):
 def piece_of(web, slots):
     """What a house of these slots holds of a web: their knots, the ties out of and into them, and the far knots."""
     own = own_knots(web, slots)
-    ties = [(tie,) + web.tie(tie) for tie in web.ties() if web.tie(tie)[1] in own or web.tie(tie)[2] in own]
+    numbers = sorted({tie for knot in own for tie in web.outs(knot) + web.ins(knot)})
+    ties = [(tie,) + web.tie(tie) for tie in numbers]
     far = [knot for tie in ties for knot in tie[2:4]]
     return Web([(knot, web.kind(knot), web.worths(knot)) for knot in sorted(set(own + far))], ties)
 

@@ -4,7 +4,7 @@ from websplit.differences import difference
 from websplit.errors import BadName, Known, NoName
 from websplit.plain import answer
 from websplit.questions import named, need_question
-from websplit.rights import seen_by
+from websplit.rights import need_asker, seen_by
 from websplit.things import is_name
 
 
@@ -70,13 +70,7 @@ class Keeper:
 
     def keep(self, name, question, *, asker=None):
         """Keeps a question by a name, for an asker."""
-        if not is_name(name):
-            raise BadName(name)
-        if name in self.entries:
-            raise Known(name)
-        need_question(question)
-        if asker is not None and not is_name(asker):
-            raise BadName(asker)
+        self.need_new(name, question, asker)
         self.entries[name] = Entry(question, asker, seen_by(self.whole, asker, None))
 
     def forget(self, name):
@@ -107,6 +101,15 @@ class Keeper:
         """How often an answer was searched."""
         self.need_name(name)
         return self.entries[name].times
+
+    def need_new(self, name, question, asker):
+        """Refuses what can't be kept, of anything."""
+        if not is_name(name):
+            raise BadName(name)
+        if name in self.entries:
+            raise Known(name)
+        need_question(question)
+        need_asker(asker)
 
     def need_name(self, name):
         """Refuses what is no name by which a question is kept, of anything."""

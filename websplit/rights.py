@@ -1,6 +1,7 @@
 """Bars, and the part of a web that they leave to be seen."""
 
-from websplit.things import is_name, is_number, is_worth
+from websplit.errors import BadName
+from websplit.things import is_name, is_number, is_worth, written
 from websplit.webs import Web
 
 
@@ -13,6 +14,17 @@ def is_bar(thing):
     if thing[0] == "one":
         return is_number(thing[1])
     return thing[0] in ("kind", "ties", "name") and is_name(thing[1])
+
+
+def need_asker(thing):
+    """Refuses what is neither a name nor None, the owner; of anything."""
+    if thing is not None and not is_name(thing):
+        raise BadName(thing)
+
+
+def bars_of(barred, asker):
+    """The bars of an asker among all (asker, bar), rising by their writings."""
+    return tuple(sorted([bar for name, bar in barred if name == asker], key=written))
 
 
 def seen(web, bars):

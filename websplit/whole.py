@@ -1,8 +1,8 @@
 """The web of all moments by itself."""
 
 from websplit.deeds import State, after_batch
-from websplit.errors import Gone, NoMoment
-from websplit.things import is_between, written
+from websplit.moments import need_moment, place_of
+from websplit.rights import bars_of
 from websplit.webs import Web
 
 
@@ -11,11 +11,6 @@ def web_of(state):
     rows = state.knot_rows
     ties = state.tie_rows
     return Web([(knot,) + rows[knot] for knot in rows], [(tie,) + ties[tie] for tie in ties])
-
-
-def bars_of(state, asker):
-    """The bars of an asker, rising by their writings."""
-    return tuple(sorted([bar for name, bar in state.barred if name == asker], key=written))
 
 
 class Whole:
@@ -44,25 +39,15 @@ class Whole:
 
     def bars(self, asker, *, moment=None):
         """The bars of an asker as of a moment."""
-        return bars_of(self.state_of(moment), asker)
+        return bars_of(self.state_of(moment).barred, asker)
 
     def let_go(self, moment):
         """Lets go of the moments ahead of this one."""
-        self.need_moment(moment)
+        need_moment(moment, self.last())
         if moment > self.begin:
             self.states = self.states[moment - self.begin:]
             self.begin = moment
 
-    def need_moment(self, moment):
-        """Refuses what is no moment up to the last one."""
-        if not is_between(moment, 0, self.last()):
-            raise NoMoment(moment)
-
     def state_of(self, moment):
         """The state as of a moment that is kept, of the last one where it is None."""
-        if moment is None:
-            return self.states[-1]
-        self.need_moment(moment)
-        if moment < self.begin:
-            raise Gone(self.begin)
-        return self.states[moment - self.begin]
+        return self.states[place_of(moment, self.begin, self.last())]
