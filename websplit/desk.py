@@ -205,8 +205,9 @@ class Desk:
         if word not in ROWS:
             raise NoRow(row)
         do, readers = ROWS[word]
+        words = rest.split(" ", len(readers) - 1) if blank else []
         try:
-            told = read_words(rest.split(" ", len(readers) - 1) if blank else [], readers)
+            told = read_words(words, readers)
         except NoText:
             raise NoRow(row) from None
         return do(self.store, *told)
